@@ -1,0 +1,1 @@
+"""Wholedrops: rows of pourings, for every amount."""
