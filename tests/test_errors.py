@@ -2,6 +2,7 @@
 
 import inspect
 import unittest
+from unittest import mock
 
 from wholedrops import errors
 
@@ -78,6 +79,16 @@ class RefusalsTest(unittest.TestCase):
                 refusal = getattr(errors, name)
                 self.assertEqual(refusal.__module__, "wholedrops.errors")
                 self.assertIn("told", vars(refusal))
+
+    def test_the_base_has_its_own_told(self):
+        self.assertIn("told", vars(errors.DropsError))
+        self.assertEqual(errors.DropsError().told(), "refused dropserror")
+        self.assertEqual(errors.DropsError.__module__, "wholedrops.errors")
+
+    def test_the_eleven_tell_their_own_where_the_base_tells_otherwise(self):
+        with mock.patch.object(errors.DropsError, "told", lambda refusal: "other"):
+            for name, fields, told in REFUSALS:
+                self.assertEqual(getattr(errors, name)(**dict(fields)).told(), told)
 
 
 if __name__ == "__main__":

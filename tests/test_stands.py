@@ -5,6 +5,8 @@ import unittest
 from fractions import Fraction
 from itertools import product
 
+from houses import all_deeds, all_starts
+
 from wholedrops import stands as module
 from wholedrops.errors import BadCount, BadStart, DropsError
 from wholedrops.jars import Change, Draw, Jars, Pour, Put, Row
@@ -32,21 +34,6 @@ def poured(sizes, deed, amounts):
     else:
         now[deed.a], now[deed.b] = now[deed.b], now[deed.a]
     return now
-
-
-def all_deeds(sizes, most):
-    jars = range(len(sizes))
-    deeds = [made(a, k) for made in (Put, Draw) for a in jars for k in range(1, most + 1)]
-    for a, b in product(jars, jars):
-        if a != b:
-            deeds.append(Pour(a, b))
-            if sizes[a] == sizes[b]:
-                deeds.append(Change(a, b))
-    return deeds
-
-
-def all_starts(sizes, parts):
-    return list(product(*[range(size * parts + 1) for size in sizes]))
 
 
 class InterfaceTest(unittest.TestCase):

@@ -4,6 +4,9 @@
 class DropsError(ValueError):
     """What all refusals stand under."""
 
+    def told(self):
+        return "refused dropserror"
+
 
 class BadCount(DropsError):
     """A number of its kind that is too low, too high or not the right one."""
@@ -109,4 +112,3 @@ class BadText(DropsError):
 
     def told(self):
         return "refused badtext"
-
