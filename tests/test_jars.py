@@ -4,20 +4,11 @@ import inspect
 import unittest
 from unittest import mock
 
+from houses import MOST, Refusing
+
 from wholedrops import jars as module
-from wholedrops.errors import BadCount, DropsError, NoJar, SameJar, Sizes
+from wholedrops.errors import BadCount, NoJar, SameJar, Sizes
 from wholedrops.jars import Change, Deed, Draw, Jars, Pour, Put, Row
-
-MOST = 10 ** 12
-
-
-class Refusing(unittest.TestCase):
-    def refused(self, refusal, fields, call, *given, **named):
-        """The call is refused with just this class and these fields."""
-        with self.assertRaises(DropsError) as caught:
-            call(*given, **named)
-        self.assertIs(caught.exception.__class__, refusal)
-        self.assertEqual(vars(caught.exception), fields)
 
 
 class InterfaceTest(unittest.TestCase):

@@ -62,6 +62,34 @@ class LanguageTest(unittest.TestCase):
                 if isinstance(node, ast.Name):
                     self.assertNotIn(node.id, BARRED, name)
 
+    def test_decorators_are_properties_alone(self):
+        for name, text in sources().items():
+            for node in ast.walk(ast.parse(text)):
+                for decorator in getattr(node, "decorator_list", []):
+                    told = ast.unparse(decorator)
+                    self.assertTrue(told == "property" or told == node.name + ".setter", f"{name} {told}")
+
+    def test_no_name_is_a_property_and_a_plain_attribute(self):
+        properties, own = set(), {}
+        for text in sources().values():
+            for node in ast.walk(ast.parse(text)):
+                if isinstance(node, ast.ClassDef):
+                    methods = [one for one in node.body if isinstance(one, ast.FunctionDef)]
+                    properties |= {one.name for one in methods if one.decorator_list}
+                    own[node.name] = [ast.unparse(base) for base in node.bases], {one.name for one in methods}, {
+                        one.attr for one in ast.walk(node)
+                        if isinstance(one, ast.Attribute) and isinstance(one.ctx, ast.Store)}
+        for name, (bases, methods, stored) in own.items():
+            for base in bases:
+                methods = methods | own.get(base, ([], set(), set()))[1]
+            self.assertEqual(stored & properties, methods & properties & stored, name)
+            self.assertEqual((stored & methods) - properties, set(), name)
+
+    def test_generators_are_not_summed(self):
+        for name, text in sources().items():
+            for node in ast.walk(ast.parse(text)):
+                self.assertNotIsInstance(node, ast.GeneratorExp, name)
+
     def test_no_two_files_import_from_each_other(self):
         imports = {}
         for name, text in sources().items():

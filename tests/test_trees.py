@@ -5,7 +5,7 @@ import random
 import unittest
 from itertools import product
 
-from houses import all_deeds, all_starts, box_of, keeps, summed
+from houses import MOST, all_deeds, all_starts, box_of, by_ones, drawn_row, keeps, summed
 
 from wholedrops import trees as module
 from wholedrops.bounds import Least, Most
@@ -15,8 +15,6 @@ from wholedrops.nets import has_room
 from wholedrops.stands import behind
 from wholedrops.sums import Sum
 from wholedrops.trees import Leaf, Test, Tree, tree_of, ways
-
-MOST = 10 ** 12
 
 
 class TooMany(Exception):
@@ -78,19 +76,6 @@ class Asked:
 def asked_tree(row):
     jars = row.jars
     return Asked(row).tree(0, [Sum((jar,), 0) for jar in range(len(jars.sizes))], box_of(jars))
-
-
-def drawn_row(drawn, sizes, many):
-    deeds = []
-    for _ in range(many):
-        kind = drawn.choice((Pour, Pour, Pour, Put, Draw, Change))
-        if kind in (Put, Draw):
-            a = drawn.randrange(len(sizes))
-            deeds.append(kind(a, drawn.choice((1, sizes[a], drawn.randint(1, sizes[a])))))
-        elif len(sizes) > 1:
-            a, b = drawn.sample(range(len(sizes)), 2)
-            deeds.append(kind(a, b) if kind is Pour or sizes[a] == sizes[b] else Pour(a, b))
-    return Row(Jars(sizes), deeds)
 
 
 class InterfaceTest(unittest.TestCase):
@@ -405,14 +390,9 @@ class WideTest(unittest.TestCase):
         self.assertIs(caught.exception.__class__, Wide)
         self.assertEqual(vars(caught.exception), {"count": 25})
 
-    def drawn_by_ones(self, *many):
-        """Each jar is drawn from by ones, so often: it alone has one leaf more, and those of all are multiplied."""
-        deeds = [Draw(jar, 1) for jar, often in enumerate(many) for _ in range(often)]
-        return Row(Jars([9] * len(many)), deeds)
-
     def test_twenty_four_leaves(self):
         for many in ((3, 5), (5, 3), (1, 1, 1, 2), (1, 2, 3), (7, 2)):
-            row = self.drawn_by_ones(*many)
+            row = by_ones(9, *many)
             self.assertEqual(len(ways(row.jars, tree_of(row))), 24)
 
     def test_a_jar_of_twenty_draws(self):
@@ -420,14 +400,14 @@ class WideTest(unittest.TestCase):
         self.assertEqual(len(ways(row.jars, tree_of(row))), 21)
 
     def test_twenty_five_leaves(self):
-        row = self.drawn_by_ones(4, 4)
+        row = by_ones(9, 4, 4)
         self.refused(row)
-        self.assertEqual(row, self.drawn_by_ones(4, 4))
+        self.assertEqual(row, by_ones(9, 4, 4))
         self.refused(row)
 
     def test_many_more_leaves(self):
         for many in ((1, 1, 1, 1, 1), (2, 2, 2), (4, 5), (9, 9), (4, 4, 3, 3, 3, 3)):
-            self.refused(self.drawn_by_ones(*many))
+            self.refused(by_ones(9, *many))
 
     def test_much_room_for_all_is_not_wide(self):
         row = Row(Jars([MOST] * 6), [Draw(jar, MOST) for jar in range(6)] + [Put(0, 1), Pour(0, 1)] * 7)

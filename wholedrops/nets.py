@@ -1,8 +1,9 @@
-"""Whether bounds of two nested families have room, and whether they have a whole start.
+"""Whether bounds of two nested families have room, and whether they have a whole start, of what least total.
 
 A bound's slack is by how much a start keeps it: its load on each jar times the amount, less its worth. As many bounds
 as there are jars make a corner, where their slacks are nought; the slack of each bound is told by those of the corner.
-Where bounds are of two nested families, all loads that come up in this are -1, 0 and 1, so corners are whole.
+Where bounds are of two nested families, all loads that come up in this are -1, 0 and 1, so corners are whole; with one
+Apart of two groups, each of which lies within no other one of its family, they still are.
 """
 
 from wholedrops.bounds import box, load_of, worth_of
@@ -76,6 +77,14 @@ class Table:
                 lot.append(self.bounds[bound])
         return lot
 
+    def floor(self):
+        """The lot that shows that no start has a lesser total than the corner: it has load 1 on each jar."""
+        lot = []
+        for bound, cost in zip(self.corner, self.costs):
+            for _ in range(cost):
+                lot.append(self.bounds[bound])
+        return lot
+
     def amounts(self):
         """What the jars hold at the corner, scaled as was asked for."""
         return tuple([low + self.rows[2 * jar][-1] for jar, low in enumerate(self.lows)])
@@ -132,13 +141,30 @@ def part_crossing(groups, first, family):
                 raise BadCount("groups", 3)
 
 
+def lot_against_room(jars, bounds):
+    """None where the bounds have room, else a lot that shows that they have none."""
+    # A lot against it has at most one bound more than there are jars. So in this many parts, where each bound asks for
+    # one part more, the lot's worth by itself must be from nought on.
+    return Table(jars, bounds, len(jars.sizes) + 2, 1).settle()
+
+
+def least_start(jars, bounds):
+    """A whole start of the least total that keeps the bounds, and a lot that shows that none has a lesser one.
+
+    Where no start keeps them it is None and a lot that shows this. The bounds may be of two nested families, and one
+    Apart of groups that lie within no other one of theirs.
+    """
+    table = Table(jars, bounds, 1, 0)
+    lot = table.settle()
+    if lot is None:
+        return table.amounts(), table.floor()
+    return None, lot
+
+
 def has_room(jars, bounds):
     """True, or a lot that shows that there is no start at which none of the bounds is just met."""
     check_groups(bounds)
-    # A lot against it has at most one bound more than there are jars. So in this many parts, where each bound asks for
-    # one part more, the lot's worth by itself must be from nought on.
-    table = Table(jars, bounds, len(jars.sizes) + 2, 1)
-    lot = table.settle()
+    lot = lot_against_room(jars, bounds)
     if lot is None:
         return True
     return lot
@@ -147,8 +173,7 @@ def has_room(jars, bounds):
 def has_start(jars, bounds):
     """A whole start that keeps the bounds, or a lot that shows that none does."""
     check_groups(bounds)
-    table = Table(jars, bounds, 1, 0)
-    lot = table.settle()
-    if lot is None:
-        return table.amounts()
-    return lot
+    start, lot = least_start(jars, bounds)
+    if start is None:
+        return lot
+    return start

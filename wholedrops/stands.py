@@ -17,6 +17,13 @@ def check_start(jars, start, parts):
             raise BadStart(jar)
 
 
+def is_whole(jars, start):
+    """Whether it is a whole start of these jars."""
+    if len(start) != len(jars.sizes):
+        return False
+    return all([0 <= number <= size for number, size in zip(start, jars.sizes)])
+
+
 def behind_deed(jars, deed, stand, parts):
     """The numbers behind one deed, as a new list."""
     after = list(stand)
